@@ -10,6 +10,12 @@ def look_creel(creel):
         raise BadCreel("a creel has a size from 1 on")
 
 
+def look_walks(walks):
+    """Refuse walks, pairs (creel, count), for the first creel below 1."""
+    for creel, count in walks:
+        look_creel(creel)
+
+
 def walked(row, creel):
     """The row behind a walk there, from the lesser places to the greater ones."""
     look_row(row)

@@ -1,5 +1,6 @@
-"""What the tests share: plain walks niche by niche, rows to try them on, and a bound on the time."""
+"""What the tests share: walks, peelings and markings step by step, rows and lists to try, and a bound on the time."""
 
+import itertools
 import random
 import signal
 import unittest
@@ -70,6 +71,91 @@ def plain_closing(row, place):
     return niche
 
 
+def plain_peel(row):
+    """The row peeled: the niches that stay are put side by side, from one ahead of the stones on."""
+    stones = set(row)
+    lasts = {place for place in row if place + 1 not in stones}
+    road = range(row[0] - 1, row[-1] + 2) if row else []
+    stay = [niche for niche in road if niche not in lasts and niche - 1 not in lasts]
+    return [row[0] - 1 + at for at, niche in enumerate(stay) if niche in stones]
+
+
+def plain_rounds(row):
+    """The numbers of last stones, peeling by peeling."""
+    counts = []
+    while row:
+        counts.append(len([place for place in row if place + 1 not in row]))
+        row = plain_peel(row)
+    return counts
+
+
+def plain_sizes(counts):
+    """The sizes of which so many are at least 1, so many at least 2 and so on."""
+    return sorted(sum(many > train for many in counts) for train in range(counts[0] if counts else 0))
+
+
+def plain_heads(row):
+    """Heads and tails of each train, by runs of niches that are listed one by one."""
+    pairs = []
+    road = [(niche, niche in row) for niche in range(row[0] - 70, row[-1] + 130)] if row else []
+    while any(stone for niche, stone in road):
+        runs = [list(group) for stone, group in itertools.groupby(road, key=lambda thing: thing[1])]
+        lengths = [len(run) for run in runs]
+        lengths[0] = lengths[-1] = float("inf")
+        at = min(at for at in range(1, len(runs)) if lengths[at] >= lengths[at - 1])
+        out = runs[at - 1] + runs[at][:lengths[at - 1]]
+        pairs.append([tuple(sorted(niche for niche, stone in out if stone is kind)) for kind in (True, False)])
+        road = [thing for thing in road if thing not in out]
+    return sorted([tuple(pair) for pair in pairs], key=lambda pair: (len(pair[0]), pair))
+
+
+def plain_mark(trains, size, place):
+    """The mark of a size at a place, train by train."""
+    for train in trains:
+        place -= 2 * min(size, train[0])
+    return place
+
+
+def plain_trains(row):
+    """The list of a row, stone by stone."""
+    built = []
+    for place in row:
+        ready = [train for train in built if train[1] == plain_mark(built, train[0], place - 1)]
+        if ready:
+            train = max(ready, key=lambda ending: ending[0])
+        else:
+            train = [0, None]
+            built.append(train)
+        train[0] += 1
+        train[1] = plain_mark(built, train[0], place)
+    return sorted(tuple(train) for train in built)
+
+
+def plain_behind(row, walks):
+    """The row behind walks, each of them niche by niche."""
+    for creel, count in walks:
+        for walk in range(abs(count)):
+            row = plain_walk(row, creel)[0] if count > 0 else plain_walk_back(row, creel)
+    return row
+
+
+def plain_ranked(row):
+    """Whether a row is ranked, by the lengths of its runs of stones and of the empty ones between."""
+    road = [niche in row for niche in range(row[0], row[-1] + 1)] if row else []
+    lengths = [len(list(group)) for stone, group in itertools.groupby(road)]
+    full, bare = lengths[::2], lengths[1::2]
+    return full == sorted(full) and all(empty >= left for left, empty in zip(full, bare))
+
+
+def plain_rank_count(row):
+    """Walks there with a creel that holds all, one by one, till the row is ranked."""
+    count = 0
+    while not plain_ranked(row):
+        row = plain_walk(row, len(row))[0]
+        count += 1
+    return count
+
+
 def small_rows():
     """All rows within eight niches, on both sides of 0."""
     return [[at - 4 for at in range(8) if mask >> at & 1] for mask in range(256)]
@@ -92,6 +178,44 @@ def many_rows(count, seed=1):
                 place += source.randint(1, widest)
         rows.append(row)
     return rows
+
+
+def small_lists():
+    """All lists of at most 5 stones, with offsets near 0, each once and rising."""
+    trains = [(size, offset) for size in range(1, 6) for offset in range(-2, 3)]
+    lists = []
+    for many in range(6):
+        lists += [list(some) for some in itertools.combinations_with_replacement(trains, many)]
+    return [some for some in lists if sum(size for size, offset in some) <= 5]
+
+
+def many_lists(count, seed=3):
+    """Lists of up to 60 stones in any order, with offsets near and far, of any sign, and with alike trains."""
+    source = random.Random(seed)
+    lists = [[(60, 0)], [(60, -FAR)], [(1, 0)] * 60, [(1, FAR)] * 60, [(30, 1), (30, 1)], [(59, 4), (1, 10 ** 50)]]
+    while len(lists) < count:
+        stones = source.choice((1, 2, 5, 10, 20, 40, 59, 60, source.randint(1, 60)))
+        longest = source.choice((1, 2, 4, 10, 60))
+        widest = source.choice((0, 1, 5, 40, FAR, 10 ** 60 - 1))
+        some = []
+        while stones:
+            size = source.randint(1, min(stones, longest))
+            stones -= size
+            some.append((size, source.randint(-widest, widest)))
+        source.shuffle(some)
+        lists.append(some)
+    return lists
+
+
+def many_walks(count, greatest, seed=4):
+    """Lists of walks with counts up to so many, there and back."""
+    source = random.Random(seed)
+    creels = (1, 2, 3, 4, 5, 8, 13, 30, 59, 60, 61, 10 ** 50)
+    lists = [[], [(1, 0)], [(3, greatest)], [(3, -greatest)], [(2, greatest), (2, -greatest)]]
+    while len(lists) < count:
+        many = source.randint(1, 5)
+        lists.append([(source.choice(creels), source.randint(-greatest, greatest)) for walk in range(many)])
+    return lists
 
 
 def creels_for(row):

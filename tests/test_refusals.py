@@ -1,8 +1,8 @@
-"""Promises [1], [2] and [3], and BadCreel of [6]: what each function that takes a row refuses and leaves as it was."""
+"""Promises [1], [2] and [3], and BadCreel of [6] and [8]: what functions that take a row refuse and leave as it was."""
 
 import unittest
 
-from creelway import carriers, rows
+from creelway import carriers, far, peels, rows, trains
 from creelway.errors import BadCreel, BadRow, TooMany
 from tests.plain import FAR, SoonCase, creels_for, many_rows, small_rows
 
@@ -12,14 +12,27 @@ BY_ROW = {
     "mirrored": lambda row: rows.mirrored(row=row),
     "moved": lambda row: rows.moved(row=row, by=3),
     "closings": lambda row: rows.closings(row=row),
+    "peeled": lambda row: peels.peeled(row=row),
+    "rounds": lambda row: peels.rounds(row=row),
+    "sizes_by_rounds": lambda row: peels.sizes_by_rounds(row=row),
+    "sizes_by_loads": lambda row: peels.sizes_by_loads(row=row),
+    "heads": lambda row: peels.heads(row=row),
+    "trains": lambda row: trains.trains(row=row),
+    "far without walks": lambda row: far.far(row=row, walks=[]),
+    "is_ranked": lambda row: far.is_ranked(row=row),
+    "rank_count": lambda row: far.rank_count(row=row),
 }
 BY_CREEL = {
     "walked": lambda row, creel: carriers.walked(row=row, creel=creel),
     "walked_back": lambda row, creel: carriers.walked_back(row=row, creel=creel),
     "carried": lambda row, creel: carriers.carried(row=row, creel=creel),
     "holding": lambda row, creel: carriers.holding(row=row, creel=creel, place=2),
+    "far": lambda row, creel: far.far(row=row, walks=[(creel, 3)]),
 }
-LISTS_TOLD = ("stretches", "mirrored", "moved", "closings", "walked", "walked_back")
+LISTS_TOLD = (
+    "stretches", "mirrored", "moved", "closings", "walked", "walked_back", "peeled", "rounds", "sizes_by_rounds",
+    "sizes_by_loads", "heads", "trains", "far", "far without walks",
+)
 WRONG_CREELS = (0, -1, -2, -10 ** 40)
 
 
@@ -154,7 +167,7 @@ class NothingChanged(SoonCase):
 
     def test_a_told_list_is_not_the_one_handed_in(self):
         for row in ([], [0], [1, 2, 5]):
-            for told in (rows.moved(row, 0), rows.mirrored(row), carriers.walked(row, 1)):
+            for told in (rows.moved(row, 0), rows.mirrored(row), carriers.walked(row, 1), far.far(row, [])):
                 self.assertIsNot(told, row)
 
     def test_changing_what_was_handed_in_changes_nothing_told(self):
@@ -182,9 +195,23 @@ class Kinds(unittest.TestCase):
         for row in ([], [0], [1, 2, 5], sixty()):
             for told in (
                 rows.mirrored(row), rows.moved(row, -2), carriers.walked(row, 2), carriers.walked_back(row, 2),
+                far.far(row, [(2, 5)]), peels.rounds(row), peels.sizes_by_rounds(row), peels.sizes_by_loads(row),
             ):
                 self.assertIs(type(told), list)
                 self.assertEqual({type(place) for place in told}, {int} if row else set())
+
+    def test_a_peeled_row_is_a_list_of_whole_numbers(self):
+        for row in ([], [0], [1, 2, 5]):
+            self.assertIs(type(peels.peeled(row)), list)
+        self.assertEqual([type(place) for place in peels.peeled([1, 2, 5])], [int])
+
+    def test_heads_and_tails_are_pairs_of_tuples(self):
+        for row in ([], [0], [1, 2, 5], sixty()):
+            told = peels.heads(row)
+            self.assertIs(type(told), list)
+            for pair in told:
+                self.assertEqual([type(thing) for thing in (pair,) + pair], [tuple, tuple, tuple])
+                self.assertEqual({type(place) for niches in pair for place in niches}, {int})
 
     def test_pairs_are_tuples_of_whole_numbers(self):
         for row in ([], [0], [1, 2, 5], sixty()):
@@ -198,6 +225,8 @@ class Kinds(unittest.TestCase):
         for row in ([], [0], [1, 2, 5], sixty()):
             self.assertIs(type(carriers.carried(row, 2)), int)
             self.assertIs(type(carriers.holding(row, 2, 1)), int)
+            self.assertIs(type(far.rank_count(row)), int)
+            self.assertIs(type(far.is_ranked(row)), bool)
 
 
 if __name__ == "__main__":
