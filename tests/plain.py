@@ -6,6 +6,11 @@ import signal
 import unittest
 
 FAR = 10 ** 40
+END = 10 ** 60 - 1
+WRONG_WALKS = (
+    [(0, 1)], [(-1, 1)], [(-FAR, 1)], [(0, 0)], [(0, -5)], [(1, 1), (0, 1)], [(0, 1), (1, 1)],
+    [(2, 3), (-2, 0), (2, 3)], [(1, FAR)] * 199 + [(0, FAR)],
+)
 
 
 class SoonCase(unittest.TestCase):
@@ -139,6 +144,13 @@ def plain_behind(row, walks):
     return row
 
 
+def plain_added(some, walks):
+    """The list behind walks, walk by walk and train by train; the counts may be great."""
+    for creel, count in walks:
+        some = [(size, offset + count * min(creel, size)) for size, offset in some]
+    return sorted(some)
+
+
 def plain_ranked(row):
     """Whether a row is ranked, by the lengths of its runs of stones and of the empty ones between."""
     road = [niche in row for niche in range(row[0], row[-1] + 1)] if row else []
@@ -196,7 +208,7 @@ def many_lists(count, seed=3):
     while len(lists) < count:
         stones = source.choice((1, 2, 5, 10, 20, 40, 59, 60, source.randint(1, 60)))
         longest = source.choice((1, 2, 4, 10, 60))
-        widest = source.choice((0, 1, 5, 40, FAR, 10 ** 60 - 1))
+        widest = source.choice((0, 1, 5, 40, FAR, END))
         some = []
         while stones:
             size = source.randint(1, min(stones, longest))
@@ -241,3 +253,34 @@ def far_shifts(parts):
 def joined(parts, shifts):
     """The parts, each moved, as one row."""
     return [place + by for part, by in zip(parts, shifts) for place in part]
+
+
+def sixty():
+    """A row of 60 stones, none of them neighbours."""
+    return list(range(-90, 90, 3))
+
+
+def wrong_rows():
+    """Pairs of a row and the number of its first wrong place."""
+    pairs = [([5, 5], 1), ([5, 4], 1), ([5, 1, 2, 3], 1), ([0, 10, 5, 7], 2), ([-FAR, FAR, FAR], 2)]
+    pairs += [([3, 2, 1], 1), ([0, 0, 0], 1), ([0, 1, 1, 0], 2), ([FAR, -FAR], 1), ([FAR + 1, FAR], 1)]
+    for at in (1, 2, 29, 30, 58, 59):
+        for less in (0, 1, 2, 500, FAR):
+            row = sixty()
+            row[at] = row[at - 1] - less
+            pairs.append((row, at))
+    for at, later in ((1, 59), (1, 2), (5, 40), (30, 31), (58, 59)):
+        for less in (0, 1, 500):
+            row = sixty()
+            row[at] = row[at - 1] - less
+            row[later] = row[later - 1] - less
+            pairs.append((row, at))
+    return pairs
+
+
+def long_rows():
+    """Lists of more than 60 places, with and without a wrong place."""
+    early, late = list(range(61)), list(range(61))
+    early[1] = early[0]
+    late[60] = -5
+    return [list(range(61)), list(range(-31, 30)), list(range(200)), early, late, [7] * 61, list(range(61, 0, -1))]

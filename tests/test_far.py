@@ -9,26 +9,13 @@ from creelway.far import added, far, is_ranked, rank_count
 from creelway.rows import mirrored, moved, stretches
 from creelway.trains import row_of, trains
 from tests.plain import (
-    FAR, SoonCase, creels_for, far_parts, far_shifts, joined, many_lists, many_rows, many_walks, plain_behind,
-    plain_rank_count, plain_ranked, plain_trains, small_lists, small_rows,
+    END, FAR, WRONG_WALKS, SoonCase, creels_for, far_parts, far_shifts, joined, many_lists, many_rows, many_walks,
+    plain_added, plain_behind, plain_rank_count, plain_ranked, plain_trains, small_lists, small_rows,
 )
-
-WRONG_WALKS = (
-    [(0, 1)], [(-1, 1)], [(-FAR, 1)], [(0, 0)], [(0, -5)], [(1, 1), (0, 1)], [(0, 1), (1, 1)],
-    [(2, 3), (-2, 0), (2, 3)], [(1, FAR)] * 199 + [(0, FAR)],
-)
-END = 10 ** 60 - 1
 
 
 def far_rows():
     return [joined(parts, far_shifts(parts)) for parts in far_parts()]
-
-
-def plain_added(some, walks):
-    """The list behind walks, walk by walk and train by train; the counts may be great."""
-    for creel, count in walks:
-        some = [(size, offset + count * min(creel, size)) for size, offset in some]
-    return sorted(some)
 
 
 def ranked_rows(count, seed=7):

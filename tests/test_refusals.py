@@ -2,9 +2,9 @@
 
 import unittest
 
-from creelway import carriers, far, peels, rows, trains
+from creelway import carriers, far, kin, peels, rows, trains
 from creelway.errors import BadCreel, BadRow, TooMany
-from tests.plain import FAR, SoonCase, creels_for, many_rows, small_rows
+from tests.plain import FAR, SoonCase, creels_for, long_rows, many_rows, sixty, small_rows, wrong_rows
 
 BY_ROW = {
     "look_row": lambda row: rows.look_row(row=row),
@@ -21,6 +21,8 @@ BY_ROW = {
     "far without walks": lambda row: far.far(row=row, walks=[]),
     "is_ranked": lambda row: far.is_ranked(row=row),
     "rank_count": lambda row: far.rank_count(row=row),
+    "kin, the first": lambda row: kin.kin(one=row, other=[1, 2, 5]),
+    "kin, the second": lambda row: kin.kin(one=[1, 2, 5], other=row),
 }
 BY_CREEL = {
     "walked": lambda row, creel: carriers.walked(row=row, creel=creel),
@@ -46,36 +48,6 @@ def all_calls(creels=(1, 3, 10 ** 50)):
     for name, call in BY_CREEL.items():
         calls += [(name, with_creel(call, creel)) for creel in creels]
     return calls
-
-
-def sixty():
-    return list(range(-90, 90, 3))
-
-
-def wrong_rows():
-    """Pairs of a row and the number of its first wrong place."""
-    pairs = [([5, 5], 1), ([5, 4], 1), ([5, 1, 2, 3], 1), ([0, 10, 5, 7], 2), ([-FAR, FAR, FAR], 2)]
-    pairs += [([3, 2, 1], 1), ([0, 0, 0], 1), ([0, 1, 1, 0], 2), ([FAR, -FAR], 1), ([FAR + 1, FAR], 1)]
-    for at in (1, 2, 29, 30, 58, 59):
-        for less in (0, 1, 2, 500, FAR):
-            row = sixty()
-            row[at] = row[at - 1] - less
-            pairs.append((row, at))
-    for at, later in ((1, 59), (1, 2), (5, 40), (30, 31), (58, 59)):
-        for less in (0, 1, 500):
-            row = sixty()
-            row[at] = row[at - 1] - less
-            row[later] = row[later - 1] - less
-            pairs.append((row, at))
-    return pairs
-
-
-def long_rows():
-    """Lists of more than 60 places, with and without a wrong place."""
-    early, late = list(range(61)), list(range(61))
-    early[1] = early[0]
-    late[60] = -5
-    return [list(range(61)), list(range(-31, 30)), list(range(200)), early, late, [7] * 61, list(range(61, 0, -1))]
 
 
 class RowRefusals(SoonCase):
