@@ -4,13 +4,13 @@ from creelway.carriers import look_walks
 from creelway.errors import BadNumber
 from creelway.far import gain
 from creelway.rows import MOST_STONES
-from creelway.trains import list_of
+from creelway.trains import by_size, list_of
 
 
 def kin(one, other):
     """Walks that lead from the one to the other, or a size by which the two are no kin."""
-    starts = offsets_by_size(one)
-    ends = offsets_by_size(other)
+    starts = by_size(list_of(one))
+    ends = by_size(list_of(other))
     for size in sorted(starts) + sorted(ends):
         if len(starts.get(size, [])) != len(ends.get(size, [])):
             return ("sizes", size)
@@ -20,14 +20,6 @@ def kin(one, other):
         if [offset + gains[size] for offset in offsets] != ends[size]:
             return ("apart", size)
     return ("walks", walks_of(gains))
-
-
-def offsets_by_size(row):
-    """For each size that the row has, rising, the offsets of its trains, rising."""
-    offsets = {}
-    for size, offset in list_of(row):
-        offsets.setdefault(size, []).append(offset)
-    return offsets
 
 
 def walks_of(gains):
