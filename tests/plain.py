@@ -12,6 +12,11 @@ WRONG_WALKS = (
     [(2, 3), (-2, 0), (2, 3)], [(1, FAR)] * 199 + [(0, FAR)],
 )
 
+DEED_WORDS = (
+    "build", "shut", "walk", "walk", "walk", "put", "put", "take", "take", "mirror", "lay", "lay", "late", "late",
+    "late", "strike", "strike",
+)
+
 
 class SoonCase(unittest.TestCase):
     """A test whose answers are to be there soon: one that goes through all niches fails."""
@@ -168,6 +173,28 @@ def plain_rank_count(row):
     return count
 
 
+def offsets_of(row, size):
+    """The offsets of the trains of this size, rising."""
+    return [offset for other, offset in plain_trains(row) if other == size]
+
+
+def sizes_of(row):
+    """The sizes of the trains, rising."""
+    return [size for size, offset in plain_trains(row)]
+
+
+def is_equally_far(one, other):
+    """Whether each of the one lies equally far from the same one of the other."""
+    return len({later - offset for offset, later in zip(one, other)}) <= 1
+
+
+def plain_kin(one, other):
+    """Whether two rows are kin, by their lists."""
+    return sizes_of(one) == sizes_of(other) and all(
+        is_equally_far(offsets_of(one, size), offsets_of(other, size)) for size in set(sizes_of(one))
+    )
+
+
 def small_rows():
     """All rows within eight niches, on both sides of 0."""
     return [[at - 4 for at in range(8) if mask >> at & 1] for mask in range(256)]
@@ -284,3 +311,134 @@ def long_rows():
     early[1] = early[0]
     late[60] = -5
     return [list(range(61)), list(range(-31, 30)), list(range(200)), early, late, [7] * 61, list(range(61, 0, -1))]
+
+
+def plain_log_row(first, log):
+    """The row behind a log, entry by entry and niche by niche, or the number of the first entry that can't be done."""
+    row = list(first)
+    for at, entry in enumerate(log):
+        if entry[0] == "walk":
+            row = plain_behind(row, [entry[1:]])
+        elif entry[0] == "mirror":
+            row = sorted(-place for place in row)
+        elif entry[0] == "lay":
+            row = row + [place + row[-1] + entry[2] + 1 - entry[1][0] for place in entry[1]]
+        elif (entry[1] in row) is (entry[0] == "put"):
+            return at
+        else:
+            row = sorted(set(row) ^ {entry[1]})
+    return row
+
+
+def plain_roads(deeds):
+    """The roads behind deeds that can all be done, one by one: for each name a pair of its first row and its log."""
+    roads = {}
+    for word, name, *rest in deeds:
+        if word == "build":
+            roads[name] = (rest[0], [])
+        elif word == "shut":
+            del roads[name]
+        elif word == "late":
+            roads[name][1].insert(rest[0], ("walk", *rest[1:]))
+        elif word == "strike":
+            roads[name][1].pop(rest[0])
+        elif word == "lay":
+            roads[name][1].append(("lay", tuple(plain_log_row(*roads[rest[0]])), rest[1]))
+        else:
+            roads[name][1].append((word, *rest))
+    return roads
+
+
+def plain_refusal(roads, deed):
+    """What refuses a deed on these roads, in the order that the document tells: a class's name, or None."""
+    word, name, *rest = deed
+    if word == "build":
+        return plain_build_refusal(roads, name, rest[0])
+    if name not in roads or word == "lay" and rest[0] not in roads:
+        return "NoRoad"
+    first, log = roads[name]
+    if word == "walk":
+        return "BadCreel" if rest[0] < 1 else None
+    if word in ("late", "strike"):
+        return plain_log_refusal(first, log, word, rest)
+    row = plain_log_row(first, log)
+    if word == "put":
+        return "Laid" if rest[0] in row else "TooMany" if len(row) == 60 else None
+    if word == "take":
+        return None if rest[0] in row else "NoStone"
+    if word == "lay":
+        other = plain_log_row(*roads[rest[0]])
+        if not row or not other:
+            return "Bare"
+        return "TooMany" if len(row) + len(other) > 60 else "TooNear" if rest[1] < len(other) else None
+    return None
+
+
+def plain_build_refusal(roads, name, row):
+    if not 1 <= len(name) <= 8 or any(sign not in "abcdefghijklmnopqrstuvwxyz" for sign in name):
+        return "BadName"
+    if name in roads:
+        return "Taken"
+    if len(row) > 60:
+        return "TooMany"
+    if list(row) != sorted(set(row)):
+        return "BadRow"
+    return "Full" if len(roads) == 8 else None
+
+
+def plain_log_refusal(first, log, word, rest):
+    if rest[0] not in range(len(log) + (word == "late")):
+        return "NoEntry"
+    if word == "late":
+        if rest[1] < 1:
+            return "BadCreel"
+        log = log[:rest[0]] + [("walk", *rest[1:])] + log[rest[0]:]
+    else:
+        if log[rest[0]][0] != "walk":
+            return "NotWalk"
+        log = log[:rest[0]] + log[rest[0] + 1:]
+    return "Clash" if isinstance(plain_log_row(first, log), int) else None
+
+
+def all_of(house):
+    """All that a house can be asked."""
+    names = house.roads()
+    rows, logs = [house.row(name) for name in names], [house.log(name) for name in names]
+    return names, rows, logs, house.deeds(), house.undone()
+
+
+def any_deed(source, roads, names="abcdef"):
+    """A deed on roads with these names and few stones, that may be refused."""
+    name, other = source.choice(names), source.choice(names)
+    word = source.choice(DEED_WORDS) if name in roads or source.random() < 0.3 else "build"
+    if source.random() < 0.02:
+        name = source.choice(("", "A", "abcdefghi", "a b", "zz"))
+    if word in ("shut", "mirror"):
+        return (word, name)
+    if word == "build":
+        row = sorted(source.sample(range(-4, 8), source.randint(0, 5)))
+        return (word, name, tuple(row[::-1] if source.random() < 0.1 else row))
+    if word == "lay":
+        stones = plain_log_row(*roads.get(other, ((), [])))
+        return (word, name, other, len(stones) + source.randint(-2, 3))
+    creel, count = source.choice((1, 2, 3, 4, 5, 60, 61, 0)), source.randint(-3, 3)
+    if word == "walk":
+        return (word, name, creel, count)
+    first, log = roads.get(name, ((), []))
+    if word in ("late", "strike"):
+        at = source.randint(-1, len(log) + 1)
+        return (word, name, at, creel, count) if word == "late" else (word, name, at)
+    stones = plain_log_row(first, log) or [0]
+    return (word, name, source.choice(stones + [source.randint(-8, 12)]))
+
+
+def many_deeds(count, seed):
+    """Deeds that can all be done one behind the other, the same ones in each run."""
+    source = random.Random(seed)
+    deeds = []
+    while len(deeds) < count:
+        roads = plain_roads(deeds)
+        deed = any_deed(source, roads)
+        if deed[0] != "shut" and plain_refusal(roads, deed) is None:
+            deeds.append(deed)
+    return deeds

@@ -43,6 +43,20 @@ class ErrorsTest(unittest.TestCase):
             with self.subTest(name):
                 self.assertFalse(hasattr(getattr(errors, name)(), "at"))
 
+    def test_word_is_the_name_of_the_class(self):
+        for name in ("CreelError",) + WITHOUT_AT:
+            for made in (getattr(errors, name)(), getattr(errors, name)("why")):
+                with self.subTest(name):
+                    self.assertEqual(vars(made)["word"], name)
+        for name in WITH_AT:
+            with self.subTest(name):
+                self.assertEqual(vars(getattr(errors, name)(3))["word"], name)
+
+    def test_its_own_words_are_its_text(self):
+        self.assertEqual(str(errors.TooMany("why")), "why")
+        for name in WITH_AT:
+            self.assertIn("3", str(getattr(errors, name)(3)))
+
     def test_each_is_taken_as_creel_error_and_as_value_error(self):
         for name in WITHOUT_AT:
             for above in (errors.CreelError, ValueError):

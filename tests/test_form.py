@@ -22,6 +22,15 @@ NAMES_IN = (
     "KeyError", "IndexError", "LookupError", "ZeroDivisionError", "StopIteration",
 )
 
+VALUES_OUT = (
+    "items", "keys", "values", "pop", "update", "append", "clear", "extend", "insert", "remove", "reverse",
+    "setdefault", "sort", "args", "encode", "decode", "hex", "fromhex", "format",
+)
+METHODS_IN = (
+    "append", "count", "extend", "get", "items", "join", "pop", "remove", "removeprefix", "setdefault", "split",
+    "values",
+)
+
 
 def files():
     return sorted(path for path in PACKAGE.rglob("*") if path.is_file() and "__pycache__" not in path.parts)
@@ -50,6 +59,37 @@ def names_given(tree):
         elif isinstance(node, ast.Name) and isinstance(node.ctx, ast.Store):
             given.add(node.id)
     return given
+
+
+def drawn_names(tree):
+    """The names that a file draws in, and its classes."""
+    classes = {node.name for node in ast.walk(tree) if isinstance(node, ast.ClassDef)}
+    return classes | {node.name for node in ast.walk(tree) if isinstance(node, ast.alias)}
+
+
+def local_names(tree):
+    """The parameters, the names that defs give, and those of handlers."""
+    found = set()
+    for top in ast.walk(tree):
+        if isinstance(top, ast.FunctionDef):
+            for node in ast.walk(top):
+                if isinstance(node, ast.arg):
+                    found.add(node.arg)
+                elif isinstance(node, ast.Name) and isinstance(node.ctx, ast.Store):
+                    found.add(node.id)
+                elif isinstance(node, ast.ExceptHandler) and node.name:
+                    found.add(node.name)
+    return found
+
+
+def draws():
+    """For each file those that it draws from."""
+    return {
+        name.removesuffix(".py"): [
+            node.module.split(".")[1] for node in ast.walk(tree) if isinstance(node, ast.ImportFrom)
+        ]
+        for name, tree in trees()
+    }
 
 
 class Form(unittest.TestCase):
@@ -94,6 +134,44 @@ class Form(unittest.TestCase):
                 if isinstance(node, ast.ImportFrom):
                     self.assertRegex(node.module or "", r"^creelway\.[a-z_]+$", name)
                     self.assertEqual(node.level, 0, name)
+
+    def test_no_two_files_draw_from_one_another(self):
+        rest = draws()
+        while rest:
+            free = [name for name, others in rest.items() if not [other for other in others if other in rest]]
+            self.assertTrue(free, rest)
+            rest = {name: others for name, others in rest.items() if name not in free}
+
+    def test_names_are_drawn_from_the_file_that_defines_them(self):
+        defined = {}
+        for name, tree in trees():
+            given = [node.name for node in tree.body if isinstance(node, (ast.FunctionDef, ast.ClassDef))]
+            given += [node.targets[0].id for node in tree.body if isinstance(node, ast.Assign)]
+            defined[name.removesuffix(".py")] = given
+        for name, tree in trees():
+            for node in ast.walk(tree):
+                if isinstance(node, ast.ImportFrom):
+                    for alias in node.names:
+                        self.assertIn(alias.name, defined[node.module.split(".")[1]], name)
+                        self.assertIsNone(alias.asname, name)
+
+    def test_no_local_is_called_like_what_is_drawn_or_like_a_class(self):
+        for name, tree in trees():
+            self.assertEqual(drawn_names(tree) & local_names(tree), set(), name)
+
+    def test_no_name_is_a_method_and_a_value(self):
+        methods, values, asked = set(), set(), set()
+        for name, tree in trees():
+            for node in ast.walk(tree):
+                if isinstance(node, ast.ClassDef):
+                    methods |= {part.name for part in node.body if isinstance(part, ast.FunctionDef)}
+                if isinstance(node, ast.Attribute) and isinstance(node.ctx, ast.Store):
+                    values.add(node.attr)
+                elif isinstance(node, ast.Attribute):
+                    asked.add(node.attr)
+        self.assertEqual(methods & values, set())
+        self.assertEqual(values & set(VALUES_OUT), set())
+        self.assertEqual(asked - methods - values - set(METHODS_IN), set())
 
     def test_names(self):
         for name, tree in trees():

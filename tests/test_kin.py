@@ -9,30 +9,12 @@ from creelway.far import far
 from creelway.kin import kin, parting, tidied
 from creelway.trains import row_of
 from tests.plain import (
-    END, FAR, WRONG_WALKS, SoonCase, far_parts, far_shifts, joined, long_rows, many_lists, many_rows, many_walks,
-    plain_added, plain_behind, plain_trains, plain_walk, plain_walk_back, sixty, small_rows, wrong_rows,
+    END, FAR, WRONG_WALKS, SoonCase, far_parts, far_shifts, is_equally_far, joined, long_rows, many_lists, many_rows,
+    many_walks, offsets_of, plain_added, plain_behind, plain_kin, plain_trains, plain_walk, plain_walk_back, sixty,
+    sizes_of, small_rows, wrong_rows,
 )
 
 WRONG_STONES = (0, -1, -60, -END, 61, 62, FAR, END)
-
-
-def offsets_of(row, size):
-    return [offset for other, offset in plain_trains(row) if other == size]
-
-
-def sizes_of(row):
-    return [size for size, offset in plain_trains(row)]
-
-
-def is_equally_far(one, other):
-    return len({later - offset for offset, later in zip(one, other)}) <= 1
-
-
-def plain_kin(one, other):
-    """Whether two rows are kin, by their lists."""
-    return sizes_of(one) == sizes_of(other) and all(
-        is_equally_far(offsets_of(one, size), offsets_of(other, size)) for size in set(sizes_of(one))
-    )
 
 
 def rows_near(row, steps):
