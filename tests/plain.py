@@ -1,5 +1,6 @@
 """What the tests share: walks, peelings and markings step by step, rows and lists to try, and a bound on the time."""
 
+import functools
 import itertools
 import random
 import signal
@@ -128,6 +129,12 @@ def plain_mark(trains, size, place):
 
 def plain_trains(row):
     """The list of a row, stone by stone."""
+    return list(plain_trains_once(tuple(row)))
+
+
+@functools.lru_cache(maxsize=None)
+def plain_trains_once(row):
+    """The list of a row, kept since the same row is often asked for."""
     built = []
     for place in row:
         ready = [train for train in built if train[1] == plain_mark(built, train[0], place - 1)]
@@ -138,7 +145,7 @@ def plain_trains(row):
             built.append(train)
         train[0] += 1
         train[1] = plain_mark(built, train[0], place)
-    return sorted(tuple(train) for train in built)
+    return tuple(sorted(tuple(train) for train in built))
 
 
 def plain_behind(row, walks):

@@ -196,7 +196,7 @@ class Numbers(SoonCase):
 
     def test_great_numbers(self):
         source = random.Random(12)
-        for sizes in many_sizes(60):
+        for sizes in many_sizes(40):
             many = how_many(200, sizes)
             for number in numbers_for(many, source):
                 row = row_numbered(200, sizes, number)

@@ -109,8 +109,8 @@ class Far(SoonCase):
                     self.assertEqual(far(row, [(creel, -count)]), back)
 
     def test_great_counts(self):
-        for row in small_rows()[::5] + many_rows(30) + far_rows()[:20]:
-            for walks in many_walks(12, FAR) + many_walks(12, END):
+        for row in small_rows()[::5] + many_rows(25) + far_rows()[:10]:
+            for walks in many_walks(10, FAR) + many_walks(10, END):
                 behind = far(row, walks)
                 self.assertEqual(plain_trains(behind), plain_added(plain_trains(row), walks))
 

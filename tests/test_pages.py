@@ -256,17 +256,26 @@ class LongPages(SoonCase):
             text += lines
         return text
 
-    def test_pages_of_nearly_40000_signs(self):
-        first = "build a " + " ".join(str(place) for place in sixty()[:59]) + "\n"
+    def hold_page(self, lines):
+        """A page of a road of 59 stones and then of these lines over and over is read, and written as it was."""
+        text = self.long_text("build a " + " ".join(str(place) for place in sixty()[:59]) + "\n", lines)
+        house = read_page(text)
+        self.assertEqual(page_text(house), text)
+        self.assertEqual(len(house.deeds()), text.count("\n"))
+
+    def test_long_pages_of_walks_and_mirrors(self):
+        for lines in ("walk a 3 5\n", "mirror a\n", f"walk a 7 {END}\nwalk a 7 -{END}\n", "walk a 3 5\nmirror a\n"):
+            self.hold_page(lines)
+
+    def test_long_pages_of_stones_and_roads(self):
         for lines in (
-            "walk a 3 5\n", "mirror a\n", "late a 0 2 1\n", "walk a 2 7\nput a -999999\ntake a -999999\n",
-            "build b\nshut b\n", f"walk a 7 {END}\nwalk a 7 -{END}\n", f"put a {END}\ntake a {END}\n",
-            "late a 0 2 1\nstrike a 0\n",
+            "walk a 2 7\nput a -999999\ntake a -999999\n", f"put a {END}\ntake a {END}\n", "build b\nshut b\n",
         ):
-            text = self.long_text(first, lines)
-            house = read_page(text)
-            self.assertEqual(page_text(house), text)
-            self.assertEqual(len(house.deeds()), text.count("\n"))
+            self.hold_page(lines)
+
+    def test_long_pages_of_late_walks(self):
+        for lines in ("late a 0 2 1\n", "late a 0 2 1\nstrike a 0\n"):
+            self.hold_page(lines)
 
     def test_walks_struck_and_found_out_late_in_a_log_of_200_entries(self):
         start = "build a 0 1 5\n" + "walk a 2 90\nput a -999999\ntake a -999999\nmirror a\n" * 50
