@@ -65,7 +65,7 @@ def found_late(roads, deed):
         raise NoEntry("the log has no such entry, nor its end there")
     look_creel(creel)
     entries = road.entries[:at] + (("walk", creel, count),) + road.entries[at:]
-    return with_road(roads, name, with_log(road, entries))
+    return with_road(roads, name, with_log(road, at, entries))
 
 
 def struck(roads, deed):
@@ -76,7 +76,8 @@ def struck(roads, deed):
         raise NoEntry("the log has no such entry")
     if road.entries[at][0] != "walk":
         raise NotWalk("the entry is no walk")
-    return with_road(roads, name, with_log(road, road.entries[:at] + road.entries[at + 1:]))
+    entries = road.entries[:at] + road.entries[at + 1:]
+    return with_road(roads, name, with_log(road, at, entries))
 
 
 DEEDS = {

@@ -7,19 +7,24 @@ from creelway.joins import behind
 from creelway.rows import MOST_STONES, mirrored
 
 FEW_WALKS = 10
+REST_APART = 16
 
 
 class Road:
-    """A road as it stands. None is changed once it is made, so a house, its past and its twins may share it."""
+    """A road as it stands. None is changed once it is made, so a house, its past and its twins may share it.
 
-    def __init__(self, first, entries, course):
-        self.first = first
+    Its rests are pairs of a number of entries and the row behind so many of them: the row with which it was built, and
+    some of those that had to be reckoned since, from which a changed log is done anew.
+    """
+
+    def __init__(self, entries, rests, course):
         self.entries = entries
+        self.rests = rests
         self.course = course
 
 
 class Course:
-    """Where a log leads to: a row at rest, counts of walks by creels since then, and whether all that is mirrored.
+    """Where a log leads to: a row, counts of walks by creels behind it, and whether what comes of that is mirrored.
 
     The row itself is reckoned only where it is asked for, so that many walks one behind the other cost no more than
     one.
@@ -33,25 +38,38 @@ class Course:
 
 def new_road(row):
     """A road with this row and an empty log."""
-    return Road(tuple(row), (), Course(tuple(row), {}, False))
+    return Road((), ((0, tuple(row)),), Course(tuple(row), {}, False))
 
 
 def with_entry(road, entry):
     """The road behind one more entry of its log."""
     course = Course(road.course.rested, dict(road.course.walks), road.course.turned)
     go_on(course, entry)
-    return Road(road.first, road.entries + (entry,), course)
+    entries = road.entries + (entry,)
+    if is_rest(road.rests, len(entries), entry):
+        return Road(entries, road.rests + ((len(entries), course.rested),), course)
+    return Road(entries, road.rests, course)
 
 
-def with_log(road, entries):
-    """The road with another log, which is done in its order from the row with which the road was built."""
-    course = Course(road.first, {}, False)
-    for at, entry in enumerate(entries):
+def with_log(road, at, entries):
+    """The road with another log, which is the same as its own ahead of the entry of this number."""
+    rests = [(number, row) for number, row in road.rests if number <= at]
+    start, rested = rests[-1]
+    course = Course(rested, {}, False)
+    for number in range(start, len(entries)):
         try:
-            go_on(course, entry)
+            go_on(course, entries[number])
         except (Laid, NoStone):
-            raise Clash(at) from None
-    return Road(road.first, entries, course)
+            raise Clash(number) from None
+        if is_rest(rests, number + 1, entries[number]):
+            rests.append((number + 1, course.rested))
+    return Road(entries, tuple(rests), course)
+
+
+def is_rest(rests, number, entry):
+    """Whether so many entries, of which this is the last one, make the next rest."""
+    # Each rest keeps a row, so they lie some entries apart; walks and mirrors reckon no row.
+    return number >= rests[-1][0] + REST_APART and entry[0] not in ("walk", "mirror")
 
 
 def go_on(course, entry):

@@ -439,13 +439,13 @@ def any_deed(source, roads, names="abcdef"):
     return (word, name, source.choice(stones + [source.randint(-8, 12)]))
 
 
-def many_deeds(count, seed):
+def many_deeds(count, seed, names="abcdef"):
     """Deeds that can all be done one behind the other, the same ones in each run."""
     source = random.Random(seed)
     deeds = []
     while len(deeds) < count:
         roads = plain_roads(deeds)
-        deed = any_deed(source, roads)
+        deed = any_deed(source, roads, names)
         if deed[0] != "shut" and plain_refusal(roads, deed) is None:
             deeds.append(deed)
     return deeds

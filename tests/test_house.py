@@ -396,6 +396,25 @@ class LateAndStrike(HouseCase):
                         house.late(name, at, entry[1], entry[2])
                         self.assertEqual((house.row(name), house.log(name)), (row, log))
 
+    def test_long_runs_of_walks_between_stones_put_in(self):
+        log = []
+        for place in (900, -900, 1800):
+            for step in range(20):
+                log += [("walk", 1 + step % 4, 1 - step % 3), ("mirror",)][:1 + step % 2]
+            log.append(("put", place))
+        for creel, count in ((2, 1), (3, -2)):
+            house = house_of(("build", "a", (0, 1, 5)), *[(word, "a", *rest) for word, *rest in log])
+            self.assertEqual(house.row("a"), plain_log_row([0, 1, 5], log))
+            for at in range(len(log) + 1):
+                house.late("a", at, creel, count)
+                later = log[:at] + [("walk", creel, count)] + log[at:]
+                self.assertEqual((house.log("a"), house.row("a")), (later, plain_log_row([0, 1, 5], later)))
+                house.late("a", len(log) // 2, 1, 1)
+                later.insert(len(log) // 2, ("walk", 1, 1))
+                self.assertEqual((house.log("a"), house.row("a")), (later, plain_log_row([0, 1, 5], later)))
+                house.back()
+                house.back()
+
     def test_a_row_laid_from_a_road_stays_as_it_was_then(self):
         house = house_of(("build", "a", (0,)), ("build", "b", (0, 1, 3)), ("walk", "b", 2, 2), ("lay", "a", "b", 3))
         kept = (house.row("a"), house.log("a"))
@@ -684,11 +703,12 @@ class StepByStep(SoonCase):
         })
 
     def test_every_late_walk_and_every_struck_one(self):
-        clashes = 0
-        for seed in range(8):
-            deeds = many_deeds(30, seed)
+        clashes, longest = 0, 0
+        for seed in range(12):
+            deeds = many_deeds(100, seed, "a") if seed % 3 == 0 else many_deeds(30, seed)
             for name, (first, log) in plain_roads(deeds).items():
                 house = house_of(*deeds)
+                longest = max(longest, len(log))
                 late = [("late", name, at, 2, 1) for at in range(-1, len(log) + 2)]
                 for deed in late + [("strike", name, at) for at in range(-1, len(log) + 1)]:
                     refusal = plain_log_refusal(first, log, deed[0], deed[2:])
@@ -701,6 +721,7 @@ class StepByStep(SoonCase):
                         house.back()
                     self.assertEqual(house.log(name), log)
         self.assertGreater(clashes, 30)
+        self.assertGreater(longest, 60)
 
 
 class NothingShared(SoonCase):
